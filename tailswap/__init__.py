@@ -1,0 +1,1 @@
+"""Tailswap: ribbons of beads that exchange their tails, place by place."""
