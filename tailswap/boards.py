@@ -1,6 +1,6 @@
 """Frames and boards: how many ribbons and places there are, and their beads."""
 
-from tailswap.errors import NoBoard, NoFrame
+from tailswap.errors import NoBoard, NoFrame, NoPlace, NoRibbon
 
 MOST_RIBBONS = 5
 MOST_PLACES = 12
@@ -28,6 +28,18 @@ def need_frame(frame):
     """Refuse what is no frame."""
     if not is_frame(frame):
         raise NoFrame()
+
+
+def need_place(frame, place):
+    """Refuse what is no place of the frame."""
+    if not is_whole_from(place, 0, frame[1] - 1):
+        raise NoPlace()
+
+
+def need_ribbon(frame, ribbon):
+    """Refuse what is no ribbon of the frame."""
+    if not is_whole_from(ribbon, 0, frame[0] - 1):
+        raise NoRibbon()
 
 
 def is_ribbon_text(thing):

@@ -140,3 +140,89 @@ def some_boards(frame, seed=5):
     chooser = random.Random(f"{frame} {seed}")
     like = tuple("".join(chooser.choice("xyz") for _ in range(long)) for _ in range(many))
     return [unlike_board(frame), like, ("q" * long,) * many]
+
+
+def plain_joints(effect):
+    """For each place tell, for each ribbon at first, whose bead follows its bead of the place ahead, bead by bead."""
+    told = []
+    for place, line in enumerate(effect):
+        lies_ahead = {whose: ribbon for ribbon, whose in enumerate(effect[place - 1])}
+        if place == 0:
+            lies_ahead = {ribbon: ribbon for ribbon in range(len(line))}
+        told.append(tuple(line[lies_ahead[ribbon]] for ribbon in range(len(line))))
+    return tuple(told)
+
+
+def plain_rounds(joint):
+    """Tell the rounds of a joint as sets of ribbons."""
+    rounds = {frozenset([ribbon]) for ribbon in range(len(joint))}
+    for one, other in enumerate(joint):
+        met = [ribbons for ribbons in rounds if one in ribbons or other in ribbons]
+        rounds = {ribbons for ribbons in rounds if ribbons not in met} | {frozenset().union(*met)}
+    return rounds
+
+
+def plain_fewest(effect):
+    return sum(len(joint) - len(plain_rounds(joint)) for joint in plain_joints(effect))
+
+
+def cut_behind(effect, cut):
+    """Tell the effect of a row of this effect and one cut more."""
+    place, one, other = cut
+    lines = [list(line) for line in effect]
+    for line in lines[place:]:
+        line[one], line[other] = line[other], line[one]
+    return tuple(tuple(line) for line in lines)
+
+
+def layers(frame, most):
+    """For each number of cuts up to most tell {effect: (how many rows of so many cuts have it, the least of these)}."""
+    told = [{plain_effect(frame, ()): (1, ())}]
+    for _ in range(most):
+        layer = {}
+        for effect, (many, least) in told[-1].items():
+            for cut in cuts_of(frame):
+                behind = cut_behind(effect, cut)
+                so_far, row = layer.get(behind, (0, least + (cut,)))
+                # Rows of one length with one effect: the least of them has the least row ahead of its last cut.
+                layer[behind] = (so_far + many, min(row, least + (cut,)))
+        told.append(layer)
+    return told
+
+
+def rows_of(frame, length):
+    """Tell all rows of so many cuts."""
+    return list(itertools.product(cuts_of(frame), repeat=length))
+
+
+def effects_of(frame):
+    """Tell all effects of a frame."""
+    many, long = frame
+    return list(itertools.product(itertools.permutations(range(many)), repeat=long))
+
+
+def some_effects(frame, number=4, seed=5):
+    """Tell effects of the frame, the one that does nothing and others, the same ones whenever asked."""
+    many, long = frame
+    chooser = random.Random(f"{frame} effects {seed}")
+    lines = list(itertools.permutations(range(many)))
+    return [plain_effect(frame, ())] + [tuple(chooser.choice(lines) for _ in range(long)) for _ in range(number)]
+
+
+def turning(many, *rounds):
+    """Tell the joint of these rounds, each ribbon followed by the next one, all other ribbons alone."""
+    joint = list(range(many))
+    for ribbons in rounds:
+        for one, other in zip(ribbons, ribbons[1:] + ribbons[:1]):
+            joint[one] = other
+    return tuple(joint)
+
+
+def effect_of_joints(*told):
+    """Tell the effect of joints, by the ribbon each bead is followed by."""
+    line = tuple(range(len(told[0])))
+    effect = []
+    for joint in told:
+        line = tuple(joint[whose] for whose in line)
+        effect.append(line)
+    return tuple(effect)

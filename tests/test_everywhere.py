@@ -5,13 +5,17 @@ import importlib
 import inspect
 import unittest
 
-from tailswap.errors import NoBoard, NoEffect, NoFrame, NoRow, NoTimes
+from tailswap.errors import (
+    NoAt, NoBoard, NoCuts, NoEffect, NoFrame, NoJoints, NoPlace, NoRibbon, NoRow, NoTimes,
+)
 from tests.plain import DEEP, THINGS, plain_behind
 from tests.refusals import RefusalCase
 
 BOARD = ("abab", "efef", "ijkl")
 ROW = ((0, 0, 1), (2, 1, 2), (3, 0, 2))
 EFFECT = ((1, 0, 2), (1, 0, 2), (1, 2, 0), (0, 2, 1))
+JOINTS = ((1, 0, 2), (0, 1, 2), (2, 1, 0), (1, 0, 2))
+FIRST = ((1, 0, 2),) * 4
 
 # The module, the function, its names and what is handed in, what it tells.
 CALLS = [
@@ -26,6 +30,20 @@ CALLS = [
     ("far", "behind_far", {"board": BOARD, "row": ROW, "times": 5}, plain_behind(BOARD, ROW, 5)),
     ("far", "round_of", {"frame": (3, 4), "row": ROW}, 6),
     ("far", "round_from", {"board": BOARD, "row": ROW}, 6),
+    ("joints", "joints", {"frame": (3, 4), "effect": EFFECT}, JOINTS),
+    ("joints", "with_joints", {"frame": (3, 4), "joints": JOINTS}, EFFECT),
+    ("joints", "fewest", {"frame": (3, 4), "effect": EFFECT}, 3),
+    ("joints", "shortest", {"frame": (3, 4), "effect": EFFECT}, ROW),
+    ("joints", "is_short", {"frame": (3, 4), "row": ROW}, True),
+    ("counts", "how_many", {"frame": (3, 4), "effect": EFFECT, "cuts": 3}, 6),
+    ("counts", "how_many_short", {"frame": (3, 4), "effect": EFFECT}, 6),
+    ("counts", "how_many_take", {"frame": (3, 4), "cuts": 3}, 180),
+    ("between", "is_between", {"frame": (3, 4), "one": FIRST, "other": EFFECT}, True),
+    ("between", "how_many_between", {"frame": (3, 4), "effect": EFFECT}, 8),
+    ("between", "how_many_follow", {"frame": (3, 4), "effect": EFFECT, "place": 2, "one": 0, "other": 2}, 4),
+    ("order", "exchanged", {"frame": (3, 4), "row": ROW, "at": 1}, ((0, 0, 1), (3, 0, 1), (2, 1, 2))),
+    ("order", "rising", {"frame": (3, 4), "row": ROW[::-1]}, ((0, 0, 1), (2, 0, 2), (3, 0, 1))),
+    ("order", "parts", {"frame": (3, 4), "one": ROW, "other": ROW[:2]}, (3, 0)),
 ]
 
 # The errors of a function in the order in which they are due, each with the name of what it refuses.
@@ -39,9 +57,25 @@ DUE = {
     "behind_far": [("board", NoBoard), ("row", NoRow), ("times", NoTimes)],
     "round_of": [("frame", NoFrame), ("row", NoRow)],
     "round_from": [("board", NoBoard), ("row", NoRow)],
+    "joints": [("frame", NoFrame), ("effect", NoEffect)],
+    "with_joints": [("frame", NoFrame), ("joints", NoJoints)],
+    "fewest": [("frame", NoFrame), ("effect", NoEffect)],
+    "shortest": [("frame", NoFrame), ("effect", NoEffect)],
+    "is_short": [("frame", NoFrame), ("row", NoRow)],
+    "how_many": [("frame", NoFrame), ("effect", NoEffect), ("cuts", NoCuts)],
+    "how_many_short": [("frame", NoFrame), ("effect", NoEffect)],
+    "how_many_take": [("frame", NoFrame), ("cuts", NoCuts)],
+    "is_between": [("frame", NoFrame), ("one", NoEffect), ("other", NoEffect)],
+    "how_many_between": [("frame", NoFrame), ("effect", NoEffect)],
+    "how_many_follow": [
+        ("frame", NoFrame), ("effect", NoEffect), ("place", NoPlace), ("one", NoRibbon), ("other", NoRibbon),
+    ],
+    "exchanged": [("frame", NoFrame), ("row", NoRow), ("at", NoAt)],
+    "rising": [("frame", NoFrame), ("row", NoRow)],
+    "parts": [("frame", NoFrame), ("one", NoRow), ("other", NoRow)],
 }
 
-# None of these is a frame, a board, a row, an effect or a number of times.
+# None of these is a frame, a board, a row, an effect, joints, or a number of times, of cuts, of a cut, place or ribbon.
 NONE_OF_ALL = [
     True, False, None, -1, 9999999999999, "", "a", "a" * 600, [], {}, [0], [(0, 0, 1)], ["a"], {"a": 1}, ((),), (None,),
     (True, 1), (1, True), ((False, 0, 1),), DEEP, ([0, 0, 1],), (("a",),), ((0, 1, 2), [0, 1, 2]),
@@ -133,6 +167,13 @@ class RefusalsTest(RefusalCase):
         back = function_of("rows", "undoing")(frame, ROW)
         self.assertEqual(function_of("rows", "led")(BOARD, effect), board)
         self.assertEqual(function_of("rows", "behind")(board, back), BOARD)
+        joints = function_of("joints", "joints")(frame, effect)
+        self.assertEqual(function_of("joints", "with_joints")(frame, joints), effect)
+        short = function_of("joints", "shortest")(frame, effect)
+        self.assertIs(function_of("joints", "is_short")(frame, short), True)
+        falling = function_of("order", "exchanged")(frame, short, 1)
+        self.assertEqual(function_of("order", "rising")(frame, falling), short)
+        self.assertIs(function_of("order", "parts")(frame, falling, short), None)
 
 
 def _module_of(name):

@@ -6,8 +6,8 @@ import unittest
 from tailswap.errors import NoBoard, NoEffect, NoFrame, NoRow
 from tailswap.rows import behind, does, is_effect, led, undoing
 from tests.plain import (
-    FRAMES, THINGS, cuts_of, plain_behind, plain_effect, plainly_board, plainly_effect, plainly_frame, plainly_row,
-    some_boards, some_rows, spoilt, unlike_board,
+    FRAMES, THINGS, cuts_of, plain_behind, plain_effect, plain_joints, plainly_board, plainly_effect, plainly_frame,
+    plainly_row, some_boards, some_rows, spoilt, unlike_board,
 )
 from tests.refusals import RefusalCase
 
@@ -184,28 +184,17 @@ class UndoingTest(RefusalCase):
             self.refused(NoRow, undoing, FRAME, thing)
 
 
-def turned(effect):
-    """Tell the joints of an effect, each as the ribbons at first that follow one another."""
-    ahead = tuple(range(len(effect[0])))
-    joints = []
-    for line in effect:
-        joints.append({one: other for one, other in zip(ahead, line)})
-        ahead = line
-    joints[0] = {ribbon: whose for ribbon, whose in enumerate(effect[0])}
-    return joints
-
-
 class JointTest(unittest.TestCase):
     def test_each_cut_turns_just_the_joint_at_its_place_by_one_exchange(self):
         for frame in [(2, 3), (3, 4), (5, 12)]:
             for row in some_rows(frame, (0, 1, 5)):
                 for cut in cuts_of(frame):
-                    before = turned(does(frame, row))
-                    after = turned(does(frame, row + (cut,)))
+                    before = plain_joints(does(frame, row))
+                    after = plain_joints(does(frame, row + (cut,)))
                     unlike = [place for place in range(frame[1]) if before[place] != after[place]]
                     self.assertEqual(unlike, [cut[0]])
                     at = cut[0]
-                    changed = [ribbon for ribbon in before[at] if before[at][ribbon] != after[at][ribbon]]
+                    changed = [ribbon for ribbon in range(frame[0]) if before[at][ribbon] != after[at][ribbon]]
                     self.assertEqual(len(changed), 2)
 
 
