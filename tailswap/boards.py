@@ -16,6 +16,11 @@ def is_whole_from(thing, least, most):
     return is_whole(thing) and least <= thing <= most
 
 
+def is_told(thing, word, size):
+    """Tell whether thing is a tuple of this size that begins by the word."""
+    return isinstance(thing, tuple) and len(thing) == size and thing[0] == word
+
+
 def is_frame(thing):
     """Tell whether thing is a frame."""
     if not isinstance(thing, tuple) or len(thing) != 2:

@@ -6,6 +6,7 @@ from math import comb
 from tailswap.boards import is_whole_from, need_frame
 from tailswap.errors import NoCuts
 from tailswap.joints import fewest, joints, rounds_of
+from tailswap.rows import with_two_exchanged
 
 MOST_CUTS = 48
 
@@ -21,17 +22,10 @@ def _kind_of(joint):
     return tuple(sorted([len(ribbons) for ribbons in rounds_of(joint)]))
 
 
-def _with_two_exchanged(joint, one, other):
-    """Tell the joint in which two ribbons are exchanged."""
-    exchanged = list(joint)
-    exchanged[one], exchanged[other] = joint[other], joint[one]
-    return tuple(exchanged)
-
-
 def _kinds_behind(joint):
     """Tell the kinds that exchanges make of a joint, one for each exchange."""
     pairs = list(combinations(range(len(joint)), 2))
-    return [_kind_of(_with_two_exchanged(joint, one, other)) for one, other in pairs]
+    return [_kind_of(with_two_exchanged(joint, one, other)) for one, other in pairs]
 
 
 def _steps(many):

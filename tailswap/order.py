@@ -27,13 +27,18 @@ def _two_exchanged(many, first, second):
     return (second, _called(first, _names_by(many, second)))
 
 
+def exchanged_at(many, row, at):
+    """Tell a row of so many ribbons in which the cut at a number and the next one, which is there, are exchanged."""
+    return row[:at] + _two_exchanged(many, row[at], row[at + 1]) + row[at + 2:]
+
+
 def exchanged(frame, row, at):
     """Tell the row in which the cut at a number and the next one are exchanged."""
     need_frame(frame)
     need_row(frame, row)
     if not is_whole_from(at, 0, len(row) - 2):
         raise NoAt()
-    return row[:at] + _two_exchanged(frame[0], row[at], row[at + 1]) + row[at + 2:]
+    return exchanged_at(frame[0], row, at)
 
 
 def _behind_those_at(many, cuts, place):

@@ -89,6 +89,13 @@ def led(board, effect):
     return tuple(texts)
 
 
+def with_two_exchanged(line, one, other):
+    """Tell a line, or a joint, in which what stands for two ribbons is exchanged."""
+    exchanged = list(line)
+    exchanged[one], exchanged[other] = line[other], line[one]
+    return tuple(exchanged)
+
+
 def undoing(frame, row):
     """Tell the row that undoes what a row does."""
     need_frame(frame)

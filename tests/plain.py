@@ -3,6 +3,8 @@
 Nothing here is taken from the package, so that a fault of it can't hide itself.
 """
 
+import functools
+import heapq
 import itertools
 import random
 import re
@@ -226,3 +228,103 @@ def effect_of_joints(*told):
         line = tuple(joint[whose] for whose in line)
         effect.append(line)
     return tuple(effect)
+
+
+def as_cut_calls(cut, ribbon):
+    """Tell how a cut calls a ribbon."""
+    _, one, other = cut
+    return {one: other, other: one}.get(ribbon, ribbon)
+
+
+def plain_exchanged(row, at):
+    """Tell the row exchanged at a number, by the point's words."""
+    first, second = row[at:at + 2]
+    if first[0] < second[0]:
+        ribbons = sorted(as_cut_calls(first, ribbon) for ribbon in second[1:])
+        first, second = (second[0], *ribbons), first
+    else:
+        ribbons = sorted(as_cut_calls(second, ribbon) for ribbon in first[1:])
+        first, second = second, (first[0], *ribbons)
+    return row[:at] + (first, second) + row[at + 2:]
+
+
+def whole(thing, least, most):
+    """Tell whether thing is a number from least to most, which a truth is not."""
+    return type(thing) is int and least <= thing <= most
+
+
+def columns(board):
+    """For each place tell the letters there, ribbon by ribbon."""
+    return list(zip(*board))
+
+
+def board_cut(board, cut):
+    """Tell the board behind one cut, bead by bead."""
+    place, one, other = cut
+    texts = [list(text) for text in board]
+    for at in range(place, len(board[0])):
+        kept = texts[one][at]
+        texts[one][at] = texts[other][at]
+        texts[other][at] = kept
+    return tuple("".join(text) for text in texts)
+
+
+def boards_by_coins(board, prices):
+    """For each board to which cuts at places with a price lead tell the least coins, the least coins first."""
+    cuts = [(prices[cut[0]], cut) for cut in cuts_of(plain_frame(board)) if prices[cut[0]] is not None]
+    told = {}
+    waiting = [(0, board)]
+    while waiting:
+        coins, now = heapq.heappop(waiting)
+        if now not in told:
+            told[now] = coins
+            for price, cut in cuts:
+                heapq.heappush(waiting, (coins + price, board_cut(now, cut)))
+    return told
+
+
+def boards_by_cuts(board):
+    """For each board to which cuts lead tell the fewest."""
+    return boards_by_coins(board, (1,) * len(board[0]))
+
+
+def boards_of(frame, letters):
+    """Tell all boards of a frame with these letters alone."""
+    many, long = frame
+    texts = ["".join(text) for text in itertools.product(letters, repeat=long)]
+    return list(itertools.product(texts, repeat=many))
+
+
+@functools.cache
+def joint_coins(joint):
+    return len(joint) - len(plain_rounds(joint))
+
+
+def plain_coins(board, texts, prices):
+    """Tell the least coins to these texts (None: whatever comes), None where they can't be come to, by lines."""
+    lines = list(itertools.permutations(range(len(board))))
+    now = {lines[0]: 0}
+    for place, price in enumerate(prices):
+        here = columns(board)[place]
+        further = {}
+        for line in lines:
+            if any(text and text[place] != here[whose] for text, whose in zip(texts, line)):
+                continue
+            coins = []
+            for ahead, paid in now.items():
+                turned = joint_coins(tuple(line[ahead.index(whose)] for whose in lines[0]))
+                if turned == 0 or price is not None:
+                    coins.append(paid + turned * (price or 0))
+            if coins:
+                further[line] = min(coins)
+        now = further
+    return min(now.values(), default=None)
+
+
+def mixed_board(frame, letters, seed=5):
+    """Tell a board of the frame of some of these letters, and another one with the same letters at each place."""
+    many, long = frame
+    chooser = random.Random(f"{frame} {letters} {seed}")
+    there = [[chooser.choice(letters) for _ in range(many)] for _ in range(long)]
+    others = [chooser.sample(place, many) for place in there]
+    return tuple(tuple("".join(place[ribbon] for place in both) for ribbon in range(many)) for both in (there, others))

@@ -16,10 +16,24 @@ NO_EFFECTS = [
     ([0, 1, 2], (0, 1, 2)), ((0, 1, 2), None), ((0, 1, None), (0, 1, 2)), ((0, 1, (2,)), (0, 1, 2)), ("012", "012"),
     {0: (0, 1, 2), 1: (0, 1, 2)}, None, True, 0, "", ((0, 1, 2), {0: 0, 1: 1, 2: 2}), ((0, 1, "2"), (0, 1, 2)),
 ]
+# Each is no board, and just one thing is amiss with it.
+NO_BOARDS = [
+    (), ("",), ("abcd", "abef", "aac"), ("abc", "abef", "aacd"), ("abcd",) * 6, ("a" * 13,) * 3,
+    ("abcD", "abef", "aacd"), ("abcd", "ab f", "aacd"), ("abcd", "abe1", "aacd"), ("abcd", "abe\n", "aacd"),
+    ("abcd", None, "aacd"), ("abcd", ("a", "b", "e", "f"), "aacd"), ["abcd", "abef", "aacd"],
+    {"abcd": 1}, "abcd", None, True, 1, 0, ("abcd", "ab{f", "aacd"), ("abcd", "ab`f", "aacd"), ("", "", ""), (("abcd", "abef", "aacd"),),
+]
 # None of these is a number of anything that is counted from 0 on.
 NO_NUMBERS = [
     -1, 9999999999999, -9999999999999, True, False, None, "", "0", "1", (), (0,), (1,), [1], [], {}, {1: 1}, ((1,),),
 ]
+
+
+def boards_of_other_frames(board):
+    """Tell boards that have a ribbon or a place more or less than this one, which has more than one of both."""
+    shorter = tuple(text[:-1] for text in board)
+    longer = tuple(text + "a" for text in board)
+    return [board[:-1], board + board[:1], shorter, longer, shorter[:-1], longer + longer[:1], ("a",)]
 
 
 class RefusalCase(unittest.TestCase):

@@ -6,7 +6,7 @@ import inspect
 import unittest
 
 from tailswap.errors import (
-    NoAt, NoBoard, NoCuts, NoEffect, NoFrame, NoJoints, NoPlace, NoRibbon, NoRow, NoTimes,
+    NoAt, NoBoard, NoCuts, NoEffect, NoFrame, NoGoal, NoJoints, NoPlace, NoPrices, NoRibbon, NoRow, NoTimes,
 )
 from tests.plain import DEEP, THINGS, plain_behind
 from tests.refusals import RefusalCase
@@ -16,6 +16,8 @@ ROW = ((0, 0, 1), (2, 1, 2), (3, 0, 2))
 EFFECT = ((1, 0, 2), (1, 0, 2), (1, 2, 0), (0, 2, 1))
 JOINTS = ((1, 0, 2), (0, 1, 2), (2, 1, 0), (1, 0, 2))
 FIRST = ((1, 0, 2),) * 4
+GOAL = ("efeb", "abkl", "ijaf")
+PRICES = (2, None, 9, 1)
 
 # The module, the function, its names and what is handed in, what it tells.
 CALLS = [
@@ -44,6 +46,17 @@ CALLS = [
     ("order", "exchanged", {"frame": (3, 4), "row": ROW, "at": 1}, ((0, 0, 1), (3, 0, 1), (2, 1, 2))),
     ("order", "rising", {"frame": (3, 4), "row": ROW[::-1]}, ((0, 0, 1), (2, 0, 2), (3, 0, 1))),
     ("order", "parts", {"frame": (3, 4), "one": ROW, "other": ROW[:2]}, (3, 0)),
+    ("exchanges", "leading", {"frame": (3, 4), "one": ROW, "other": ROW[:2]}, ("parts", 3, 0)),
+    (
+        "exchanges", "shows_leading",
+        {"frame": (3, 4), "one": ROW, "other": ((2, 0, 2), (0, 0, 1), (3, 0, 2)), "thing": ("numbers", (0,))}, True,
+    ),
+    ("goals", "wish", {"board": BOARD, "goal": GOAL}, ("cuts", 3, ROW)),
+    ("goals", "shows_wish", {"board": BOARD, "goal": GOAL, "thing": ("cuts", 3, ROW)}, True),
+    ("prices", "priced", {"board": BOARD, "goal": GOAL, "prices": PRICES}, ("coins", 12, ROW)),
+    ("prices", "shows_priced", {"board": BOARD, "goal": GOAL, "prices": PRICES, "thing": ("coins", 12, ROW)}, True),
+    ("prices", "how_many_boards", {"board": BOARD, "prices": PRICES}, 216),
+    ("ways", "how_many_lead", {"board": BOARD, "goal": GOAL, "cuts": 3}, 6),
 ]
 
 # The errors of a function in the order in which they are due, each with the name of what it refuses.
@@ -73,9 +86,18 @@ DUE = {
     "exchanged": [("frame", NoFrame), ("row", NoRow), ("at", NoAt)],
     "rising": [("frame", NoFrame), ("row", NoRow)],
     "parts": [("frame", NoFrame), ("one", NoRow), ("other", NoRow)],
+    "leading": [("frame", NoFrame), ("one", NoRow), ("other", NoRow)],
+    "shows_leading": [("frame", NoFrame), ("one", NoRow), ("other", NoRow)],
+    "wish": [("board", NoBoard), ("goal", NoGoal)],
+    "shows_wish": [("board", NoBoard), ("goal", NoGoal)],
+    "priced": [("board", NoBoard), ("goal", NoGoal), ("prices", NoPrices)],
+    "shows_priced": [("board", NoBoard), ("goal", NoGoal), ("prices", NoPrices)],
+    "how_many_boards": [("board", NoBoard), ("prices", NoPrices)],
+    "how_many_lead": [("board", NoBoard), ("goal", NoGoal), ("cuts", NoCuts)],
 }
 
-# None of these is a frame, a board, a row, an effect, joints, or a number of times, of cuts, of a cut, place or ribbon.
+# None of these is a frame, a board, a row, an effect, joints, a goal of BOARD, prices for it, or a number of times, of
+# cuts, of a cut, place or ribbon.
 NONE_OF_ALL = [
     True, False, None, -1, 9999999999999, "", "a", "a" * 600, [], {}, [0], [(0, 0, 1)], ["a"], {"a": 1}, ((),), (None,),
     (True, 1), (1, True), ((False, 0, 1),), DEEP, ([0, 0, 1],), (("a",),), ((0, 1, 2), [0, 1, 2]),
@@ -151,6 +173,12 @@ class RefusalsTest(RefusalCase):
     def test_is_effect_refuses_nothing_but_the_frame(self):
         for thing in [*THINGS, *NONE_OF_ALL]:
             self.assertIs(function_of("rows", "is_effect")((3, 4), thing), False)
+
+    def test_what_shows_something_is_told_of_anything(self):
+        for module, name, told, _ in CALLS:
+            if name.startswith("shows_"):
+                for thing in [*THINGS, *NONE_OF_ALL]:
+                    self.assertIs(function_of(module, name)(**{**told, "thing": thing}), False)
 
     def test_a_refusal_leaves_the_next_answer_as_it_was(self):
         for module, name, told, _ in CALLS:

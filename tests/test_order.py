@@ -6,7 +6,7 @@ import unittest
 
 from tailswap.errors import NoAt, NoRow
 from tailswap.order import exchanged, parts, rising
-from tests.plain import FRAMES, cuts_of, plain_effect, plainly_row, rows_of, some_rows, spoilt
+from tests.plain import FRAMES, cuts_of, plain_effect, plain_exchanged, plainly_row, rows_of, some_rows, spoilt
 from tests.refusals import NO_NUMBERS, RefusalCase
 
 FRAME = (4, 3)
@@ -15,24 +15,6 @@ NO_ROWS = [
     None, list(ROW), ((3, 0, 1),), ((0, 0, 4),), ((0, 1, 0),), ((0, 1, 1),), ((-1, 0, 1),), ((False, 0, 1),),
     ((0, 0, True),), ([0, 0, 1],), ((0, 0, 1), (0, 0, 1), None), "", True, 0, {}, (0, 0, 1),
 ]
-
-
-def as_cut_calls(cut, ribbon):
-    """Tell how a cut calls a ribbon."""
-    _, one, other = cut
-    return {one: other, other: one}.get(ribbon, ribbon)
-
-
-def plain_exchanged(row, at):
-    """Tell the row exchanged at a number, by the point's words."""
-    first, second = row[at:at + 2]
-    if first[0] < second[0]:
-        ribbons = sorted(as_cut_calls(first, ribbon) for ribbon in second[1:])
-        first, second = (second[0], *ribbons), first
-    else:
-        ribbons = sorted(as_cut_calls(second, ribbon) for ribbon in first[1:])
-        first, second = second, (first[0], *ribbons)
-    return row[:at] + (first, second) + row[at + 2:]
 
 
 def falling_at(row):
