@@ -21,7 +21,8 @@ NO_BOARDS = [
     (), ("",), ("abcd", "abef", "aac"), ("abc", "abef", "aacd"), ("abcd",) * 6, ("a" * 13,) * 3,
     ("abcD", "abef", "aacd"), ("abcd", "ab f", "aacd"), ("abcd", "abe1", "aacd"), ("abcd", "abe\n", "aacd"),
     ("abcd", None, "aacd"), ("abcd", ("a", "b", "e", "f"), "aacd"), ["abcd", "abef", "aacd"],
-    {"abcd": 1}, "abcd", None, True, 1, 0, ("abcd", "ab{f", "aacd"), ("abcd", "ab`f", "aacd"), ("", "", ""), (("abcd", "abef", "aacd"),),
+    {"abcd": 1}, "abcd", None, True, 1, 0, ("abcd", "ab{f", "aacd"), ("abcd", "ab`f", "aacd"), ("", "", ""),
+    (("abcd", "abef", "aacd"),),
 ]
 # None of these is a number of anything that is counted from 0 on.
 NO_NUMBERS = [

@@ -6,7 +6,8 @@ import inspect
 import unittest
 
 from tailswap.errors import (
-    NoAt, NoBoard, NoCuts, NoEffect, NoFrame, NoGoal, NoJoints, NoPlace, NoPrices, NoRibbon, NoRow, NoTimes,
+    NoAt, NoBoard, NoCuts, NoEffect, NoFrame, NoGoal, NoJoints, NoPlace, NoPrices, NoRibbon, NoRow, NoText, NoTimes,
+    NoWishes,
 )
 from tests.plain import DEEP, THINGS, plain_behind
 from tests.refusals import RefusalCase
@@ -57,6 +58,17 @@ CALLS = [
     ("prices", "shows_priced", {"board": BOARD, "goal": GOAL, "prices": PRICES, "thing": ("coins", 12, ROW)}, True),
     ("prices", "how_many_boards", {"board": BOARD, "prices": PRICES}, 216),
     ("ways", "how_many_lead", {"board": BOARD, "goal": GOAL, "cuts": 3}, 6),
+    ("some", "some_wish", {"board": BOARD, "wishes": (None, "abkl", None)}, ("cuts", 2, ((0, 0, 1), (2, 1, 2)))),
+    (
+        "some", "shows_some",
+        {"board": BOARD, "wishes": (None, "abkl", None), "thing": ("cuts", 2, ((2, 0, 2), (0, 0, 1)))}, True,
+    ),
+    ("some", "pieces", {"frame": (3, 4), "effect": EFFECT, "ribbon": 0}, ((1, 0, 2), (0, 3, 3))),
+    ("some", "how_many_pieces", {"frame": (3, 4), "effect": EFFECT}, 7),
+    ("texts", "board_text", {"board": BOARD}, "abab\nefef\nijkl\n"),
+    ("texts", "row_text", {"frame": (3, 4), "row": ROW}, "0:0x1 2:1x2 3:0x2"),
+    ("texts", "read_board", {"text": "abab\nefef\nijkl\n"}, BOARD),
+    ("texts", "read_row", {"frame": (3, 4), "text": "0:0x1 2:1x2 3:0x2"}, ROW),
 ]
 
 # The errors of a function in the order in which they are due, each with the name of what it refuses.
@@ -94,10 +106,18 @@ DUE = {
     "shows_priced": [("board", NoBoard), ("goal", NoGoal), ("prices", NoPrices)],
     "how_many_boards": [("board", NoBoard), ("prices", NoPrices)],
     "how_many_lead": [("board", NoBoard), ("goal", NoGoal), ("cuts", NoCuts)],
+    "some_wish": [("board", NoBoard), ("wishes", NoWishes)],
+    "shows_some": [("board", NoBoard), ("wishes", NoWishes)],
+    "pieces": [("frame", NoFrame), ("effect", NoEffect), ("ribbon", NoRibbon)],
+    "how_many_pieces": [("frame", NoFrame), ("effect", NoEffect)],
+    "board_text": [("board", NoBoard)],
+    "row_text": [("frame", NoFrame), ("row", NoRow)],
+    "read_board": [("text", NoText)],
+    "read_row": [("frame", NoFrame), ("text", NoText)],
 }
 
-# None of these is a frame, a board, a row, an effect, joints, a goal of BOARD, prices for it, or a number of times, of
-# cuts, of a cut, place or ribbon.
+# None of these is a frame, a board, a row, an effect, joints, a goal of BOARD, prices or wishes for it, a written text,
+# or a number of times, of cuts, of a cut, place or ribbon.
 NONE_OF_ALL = [
     True, False, None, -1, 9999999999999, "", "a", "a" * 600, [], {}, [0], [(0, 0, 1)], ["a"], {"a": 1}, ((),), (None,),
     (True, 1), (1, True), ((False, 0, 1),), DEEP, ([0, 0, 1],), (("a",),), ((0, 1, 2), [0, 1, 2]),

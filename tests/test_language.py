@@ -1,6 +1,7 @@
 """The rules of the language subset that can be told from a file by itself."""
 
 import ast
+import builtins
 import pathlib
 import unittest
 
@@ -13,6 +14,18 @@ LIBRARY = {
         "product", "combinations", "permutations", "chain", "accumulate", "pairwise", "islice", "zip_longest",
     },
     "collections": {"defaultdict"},
+}
+
+# The methods of builtin values that may be called.
+METHODS = {
+    "append", "clear", "copy", "count", "endswith", "extend", "find", "get", "index", "insert", "isalnum", "isalpha",
+    "isdigit", "islower", "isspace", "isupper", "items", "join", "keys", "ljust", "lower", "lstrip", "partition", "pop",
+    "remove", "replace", "reverse", "rfind", "rjust", "rpartition", "rsplit", "rstrip", "setdefault", "split",
+    "splitlines", "startswith", "strip", "update", "upper", "values", "zfill", "bit_length",
+}
+BUILTINS = {
+    "len", "range", "enumerate", "zip", "min", "max", "sum", "abs", "sorted", "reversed", "int", "str", "bool", "list",
+    "tuple", "dict", "set", "isinstance", "ord", "repr", "any", "all", "divmod", "ValueError",
 }
 
 
@@ -67,6 +80,38 @@ class LanguageTest(unittest.TestCase):
         for file in FILES:
             left_out = (ast.Global, ast.AsyncFunctionDef, ast.AsyncFor, ast.AsyncWith, ast.Await, ast.Div)
             self.assertEqual(nodes_of(file, *left_out), [], file.name)
+
+    def test_methods(self):
+        own = {function.name for file in FILES for function in nodes_of(file, ast.FunctionDef)}
+        for file in FILES:
+            for call in nodes_of(file, ast.Call):
+                if isinstance(call.func, ast.Attribute):
+                    self.assertIn(call.func.attr, METHODS | own, file.name)
+
+    def test_builtins(self):
+        known = {name for name in dir(builtins) if not name.startswith("_")}
+        for file in FILES:
+            self.assertEqual(defined_in(file) & known, set(), file.name)
+            read = {node.id for node in nodes_of(file, ast.Name) if isinstance(node.ctx, ast.Load)}
+            self.assertLessEqual(read & known, BUILTINS, file.name)
+            names = {argument.arg for argument in nodes_of(file, ast.arg)}
+            self.assertEqual(names & known, set(), file.name)
+
+    def test_what_the_package_does_without(self):
+        for file in FILES:
+            left_out = (ast.GeneratorExp, ast.Yield, ast.YieldFrom, ast.SetComp, ast.NamedExpr, ast.Try)
+            self.assertEqual(nodes_of(file, *left_out), [], file.name)
+
+    def test_no_two_files_import_from_each_other(self):
+        lines = {file.stem: nodes_of(file, ast.ImportFrom) for file in FILES}
+        ahead = {
+            stem: {line.module.removeprefix("tailswap.") for line in told if line.module.startswith("tailswap.")}
+            for stem, told in lines.items()
+        }
+        while ahead:
+            free = [stem for stem, needed in ahead.items() if not needed & set(ahead)]
+            self.assertNotEqual(free, [])
+            ahead = {stem: needed for stem, needed in ahead.items() if stem not in free}
 
 
 if __name__ == "__main__":
